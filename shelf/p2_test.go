@@ -1,0 +1,110 @@
+package shelf_test
+
+import (
+	"reflect"
+	"slices"
+	"strings"
+	"sync"
+	"testing"
+	"unsafe"
+
+	"shelf/api"
+	"shelf/shelf"
+)
+
+func TestP2FirstStepsAlone(t *testing.T) {
+	for seed := range uint64(5) {
+		script := mixed(seed, 250)
+		whole := answers(t, script)
+		for k := range script {
+			sameAnswers(t, "the first steps alone", answers(t, script[:k]), whole[:k])
+			sameAnswers(t, "the first steps without spare room", answers(t, slices.Clip(slices.Clone(script[:k]))), whole[:k])
+		}
+	}
+}
+
+func TestP2TwoRuns(t *testing.T) {
+	for seed := range uint64(20) {
+		script := mixed(seed, 300)
+		first := answers(t, script)
+		answers(t, mixed(seed+1000, 50))
+		sameAnswers(t, "a second run", answers(t, script), first)
+	}
+}
+
+func TestP2RunsAtOnce(t *testing.T) {
+	var scripts [][]api.Op
+	var alone, atOnce [8][]api.Answer
+	for i := range alone {
+		scripts = append(scripts, mixed(uint64(i), 300))
+		alone[i] = answers(t, scripts[i])
+	}
+	var group sync.WaitGroup
+	for i := range atOnce {
+		group.Go(func() { atOnce[i] = shelf.Run(scripts[i]) })
+	}
+	group.Wait()
+	for i := range atOnce {
+		sameAnswers(t, "runs at once", atOnce[i], alone[i])
+	}
+}
+
+func TestP2HandedInStays(t *testing.T) {
+	for seed := range uint64(20) {
+		room := mixed(seed, 400)
+		before := slices.Clone(room)
+		answers(t, room[:200])
+		if !reflect.DeepEqual(room[:200], before[:200]) {
+			t.Error("the script was written into")
+		}
+		if !reflect.DeepEqual(room[200:], before[200:]) {
+			t.Error("the spare room of the script was written into")
+		}
+	}
+}
+
+// scribble writes into a list and its spare room.
+func scribble(items []api.Item) {
+	items = items[:cap(items)]
+	for i := range items {
+		items[i] = api.Item{Kind: -1, Text: "scribble", Version: -1}
+	}
+}
+
+func deepCopy(l []api.Answer) []api.Answer {
+	l = slices.Clone(l)
+	for i := range l {
+		l[i].Items = slices.Clone(l[i].Items)
+	}
+	return l
+}
+
+func TestP2ListsAreNewMemory(t *testing.T) {
+	for seed := range uint64(5) {
+		script := mixed(seed, 300)
+		first, second := answers(t, script), answers(t, script)
+		want := deepCopy(first)
+		for i := range first {
+			scribble(first[i].Items)
+			first[i] = api.Answer{}
+			sameAnswers(t, "lists of one run", first[i+1:], want[i+1:])
+		}
+		room := first[:cap(first)]
+		for i := range room {
+			room[i] = api.Answer{Code: -1}
+		}
+		sameAnswers(t, "lists of another run", second, want)
+		sameAnswers(t, "a run behind", answers(t, script), want)
+	}
+}
+
+func TestP2BodiesAreNotKept(t *testing.T) {
+	body := strings.Repeat("body", 10)
+	got := answers(t, []api.Op{{Kind: api.Put, Key: "a", Body: body}, {Kind: api.Get, Key: "a"}})
+	if got[1].Body != body {
+		t.Fatalf("another body: %q", got[1].Body)
+	}
+	if unsafe.StringData(got[1].Body) == unsafe.StringData(body) {
+		t.Error("the answer shares memory with the script")
+	}
+}

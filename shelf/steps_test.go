@@ -1,0 +1,120 @@
+package shelf_test
+
+import (
+	"fmt"
+	"math"
+	"math/rand/v2"
+	"reflect"
+	"strings"
+	"testing"
+
+	"shelf/api"
+	"shelf/shelf"
+)
+
+// step: a step, and the answer that it must have.
+type step struct {
+	op   api.Op
+	want api.Answer
+}
+
+func (s step) fails(code api.Errno) step {
+	s.want = api.Answer{Code: code}
+	return s
+}
+
+func put(key, body string, version int) step {
+	return step{api.Op{Kind: api.Put, Key: key, Body: body}, api.Answer{Version: version}}
+}
+
+func get(key, body string, version int) step {
+	return step{api.Op{Kind: api.Get, Key: key}, api.Answer{Version: version, Body: body}}
+}
+
+func getv(key string, n int, body string) step {
+	return step{api.Op{Kind: api.GetV, Key: key, N: n}, api.Answer{Body: body}}
+}
+
+func drop(key string, version int) step {
+	return step{api.Op{Kind: api.Drop, Key: key}, api.Answer{Version: version}}
+}
+
+func dropv(key string, n int) step {
+	return step{api.Op{Kind: api.DropV, Key: key, N: n}, api.Answer{}}
+}
+
+func same(got, want api.Answer) bool {
+	if len(got.Items) == 0 && len(want.Items) == 0 {
+		got.Items, want.Items = nil, nil
+	}
+	return reflect.DeepEqual(got, want)
+}
+
+// tellStep quotes and cuts the texts, which may hold any bytes and be very long.
+func tellStep(op api.Op) string {
+	return fmt.Sprintf("kind %d, key %.60q, body %.120q, delim %.60q, after %.60q, n %d, from %d", op.Kind, op.Key, op.Body, op.Delim, op.After, op.N, op.From)
+}
+
+func tell(a api.Answer) string {
+	return fmt.Sprintf("code %d, version %d, body %.120q, items %.60q, token %.60q", a.Code, a.Version, a.Body, fmt.Sprint(a.Items), a.Token)
+}
+
+// answers runs a script: one answer a step.
+func answers(t *testing.T, script []api.Op) []api.Answer {
+	t.Helper()
+	got := shelf.Run(script)
+	if len(got) != len(script) {
+		t.Fatalf("%d answers to %d steps", len(got), len(script))
+	}
+	return got
+}
+
+// check runs the steps as one script, and holds the answers against those that they must have.
+func check(t *testing.T, steps ...step) {
+	t.Helper()
+	var script []api.Op
+	for _, s := range steps {
+		script = append(script, s.op)
+	}
+	for i, got := range answers(t, script) {
+		if !same(got, steps[i].want) {
+			t.Fatalf("step %d (%s): %s, want %s", i, tellStep(steps[i].op), tell(got), tell(steps[i].want))
+		}
+	}
+}
+
+func sameAnswers(t *testing.T, what string, got, want []api.Answer) {
+	t.Helper()
+	if len(got) != len(want) {
+		t.Fatalf("%s: %d answers, want %d", what, len(got), len(want))
+	}
+	for i := range got {
+		if !same(got[i], want[i]) {
+			t.Fatalf("%s: step %d: %s, want %s", what, i, tell(got[i]), tell(want[i]))
+		}
+	}
+}
+
+func edgeNumbers() []int {
+	return []int{math.MinInt, math.MinInt + 1, math.MinInt32, -1, 0, 1, 2, 20, 21, 200, 201, 1000, 1001, math.MaxInt32, math.MaxInt - 1, math.MaxInt}
+}
+
+func oddTexts() []string {
+	return []string{"", "a", "a/b", "/", "\x00", "\xff\xfe", "\u00e4\u20ac", "a\nb", strings.Repeat("k", 40), strings.Repeat("k", 41), strings.Repeat("\xff", 100), strings.Repeat("b", 101), strings.Repeat("long ", 1<<20)}
+}
+
+// mixed makes a script of all kinds of steps, known and unknown, most of them of few keys and of numbers that were given.
+func mixed(seed uint64, length int) []api.Op {
+	r := rand.New(rand.NewPCG(seed, 0))
+	texts := []string{"a", "a", "a/", "a/b", "b", "b", "", "\xff", strings.Repeat("k", 40), strings.Repeat("k", 41), strings.Repeat("b", 101)}
+	pick := func() string { return texts[r.IntN(len(texts))] }
+	var script []api.Op
+	for range length {
+		op := api.Op{Kind: r.IntN(15) - 1, Key: pick(), Body: pick(), Delim: pick(), After: pick(), N: r.IntN(length), From: r.IntN(length+2) - 1}
+		if r.IntN(2) == 0 {
+			op.Kind = 1 + r.IntN(5)
+		}
+		script = append(script, op)
+	}
+	return script
+}
