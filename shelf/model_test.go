@@ -1,6 +1,7 @@
 package shelf_test
 
 import (
+	"cmp"
 	"math/rand/v2"
 	"slices"
 	"strings"
@@ -13,6 +14,7 @@ import (
 type model struct {
 	rows []row
 	last int
+	open int
 }
 
 type row struct {
@@ -22,6 +24,9 @@ type row struct {
 }
 
 func (m *model) answer(op api.Op) api.Answer {
+	if op.Kind == api.List || op.Kind == api.Vers {
+		return m.list(op)
+	}
 	if op.Kind < api.Put || op.Kind > api.DropV {
 		return api.Answer{Code: api.ErrKind}
 	}
@@ -75,6 +80,57 @@ func (m *model) make(op api.Op) api.Answer {
 	return api.Answer{Version: m.last}
 }
 
+func (m *model) list(op api.Op) api.Answer {
+	if op.N < 1 || op.N > 20 {
+		return api.Answer{Code: api.ErrMax}
+	}
+	items := m.items(op)
+	if len(items) <= op.N {
+		return api.Answer{Items: items}
+	}
+	if m.open == 3 {
+		return api.Answer{Code: api.ErrMany}
+	}
+	m.open++
+	return api.Answer{Items: items[:op.N], Token: someToken}
+}
+
+// items makes an item of each row that is asked for, drops those that are there already, and sorts what is left.
+func (m *model) items(op api.Op) []api.Item {
+	var items []api.Item
+	for i, r := range m.rows {
+		older := slices.ContainsFunc(m.rows[i+1:], func(later row) bool { return later.key == r.key })
+		if !strings.HasPrefix(r.key, op.Key) || slices.Compare([]byte(r.key), []byte(op.After)) <= 0 {
+			continue
+		}
+		if op.Kind == api.List && (older || r.marker) {
+			continue
+		}
+		if item := r.item(op); !slices.Contains(items, item) {
+			items = append(items, item)
+		}
+	}
+	slices.SortFunc(items, func(a, b api.Item) int {
+		return cmp.Or(slices.Compare([]byte(a.Text), []byte(b.Text)), cmp.Compare(b.Version, a.Version))
+	})
+	return items
+}
+
+func (r row) item(op api.Op) api.Item {
+	for start := len(op.Key); op.Delim != "" && start+len(op.Delim) <= len(r.key); start++ {
+		if r.key[start:start+len(op.Delim)] == op.Delim {
+			return common(r.key[:start+len(op.Delim)])
+		}
+	}
+	switch {
+	case op.Kind == api.List:
+		return key(r.key, r.number)
+	case r.marker:
+		return marker(r.key, r.number)
+	}
+	return version(r.key, r.number)
+}
+
 // lively makes steps that mostly find something: kinds are picked from the list, numbers from those given lately.
 func lively(r *rand.Rand, kinds []int, m *model) api.Op {
 	keys := []string{"a", "a", "a", "ab", "abc", "b", "\x00", "\xff", "", strings.Repeat("k", 40), strings.Repeat("k", 41)}
@@ -98,6 +154,46 @@ func TestP3AgainstModel(t *testing.T) {
 		var steps []step
 		for range 700 {
 			op := lively(r, kinds, &m)
+			steps = append(steps, step{op, m.answer(op)})
+		}
+		check(t, steps...)
+	}
+}
+
+// fewBytes makes texts of few bytes, so that they begin alike and hold each other.
+func fewBytes(r *rand.Rand, longest int) string {
+	b := make([]byte, r.IntN(longest+1))
+	for i := range b {
+		b[i] = "//a\xff"[r.IntN(4)]
+	}
+	return string(b)
+}
+
+// query makes a listing: of short prefixes and delimiters, and of pages of which few end ahead of the items.
+func query(r *rand.Rand) api.Op {
+	op := api.Op{Kind: api.List + r.IntN(2), Key: fewBytes(r, 2), Delim: fewBytes(r, 2), N: 20}
+	if r.IntN(2) == 0 {
+		op.After = fewBytes(r, 5)
+	}
+	if r.IntN(3) == 0 {
+		op.N = r.IntN(22)
+	}
+	return op
+}
+
+func TestP4AgainstModel(t *testing.T) {
+	for seed := range uint64(1500) {
+		r := rand.New(rand.NewPCG(seed, 11))
+		var m model
+		var steps []step
+		for range 80 {
+			op := query(r)
+			if r.IntN(2) == 0 {
+				op = lively(r, []int{api.Put, api.Put, api.Drop, api.DropV, api.DropV}, &m)
+				if r.IntN(2) == 0 {
+					op.Key = fewBytes(r, 5)
+				}
+			}
 			steps = append(steps, step{op, m.answer(op)})
 		}
 		check(t, steps...)

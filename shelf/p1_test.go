@@ -2,7 +2,9 @@ package shelf_test
 
 import (
 	"math"
+	"runtime"
 	"testing"
+	"time"
 
 	"shelf/api"
 	"shelf/shelf"
@@ -54,4 +56,25 @@ func TestP1LongScriptInOrder(t *testing.T) {
 		steps = append(steps, put("a", "x", n), dropv("a", n))
 	}
 	check(t, steps...)
+}
+
+func TestP1NoGoroutineIsLeft(t *testing.T) {
+	before := runtime.NumGoroutine()
+	var script []api.Op
+	for range api.MaxVersions {
+		script = append(script, api.Op{Kind: api.Put, Key: "a"})
+	}
+	// Far more items than the page has, and listings that are refused.
+	for range 10 {
+		script = append(script, api.Op{Kind: api.Vers, N: 1}, api.Op{Kind: api.Vers, N: 21})
+	}
+	answers(t, script)
+	// One that has closed its channel may still be on its way out.
+	for range 1000 {
+		if runtime.NumGoroutine() <= before {
+			return
+		}
+		time.Sleep(time.Millisecond)
+	}
+	t.Errorf("%d goroutines, %d ahead of the runs", runtime.NumGoroutine(), before)
 }

@@ -98,6 +98,44 @@ func TestP2ListsAreNewMemory(t *testing.T) {
 	}
 }
 
+// filled: three listings that stay open and, behind them, whole ones of the same items.
+func filled() []api.Op {
+	var script []api.Op
+	for _, k := range []string{"a", "b", "c/d", "c/e", "f"} {
+		script = append(script, api.Op{Kind: api.Put, Key: k}, api.Op{Kind: api.Drop, Key: k}, api.Op{Kind: api.Put, Key: k})
+	}
+	for _, n := range []int{1, 2, 3, 20, 20} {
+		script = append(script, api.Op{Kind: api.List, N: n}, api.Op{Kind: api.Vers, N: 20}, api.Op{Kind: api.List, N: 20, Delim: "/"})
+	}
+	return script
+}
+
+func TestP2ItemsAreNewMemory(t *testing.T) {
+	script := filled()
+	first, second := answers(t, script), answers(t, script)
+	want := deepCopy(first)
+	for i := range first {
+		if script[i].Kind == api.List && len(first[i].Items) == 0 {
+			t.Fatal("a list without items, in which no shared memory could be seen")
+		}
+		scribble(first[i].Items)
+		sameAnswers(t, "lists of one run", first[i+1:], want[i+1:])
+	}
+	sameAnswers(t, "lists of another run", second, want)
+	sameAnswers(t, "a run behind", answers(t, script), want)
+}
+
+func TestP2TextsOfItemsAreNewMemory(t *testing.T) {
+	prefix, name := strings.Repeat("p", 20), strings.Repeat("p", 30)
+	got := answers(t, []api.Op{{Kind: api.Put, Key: name}, {Kind: api.List, Key: prefix, N: 1}, {Kind: api.Vers, Key: name, N: 1}, {Kind: api.List, Delim: prefix, N: 1}})
+	for _, a := range got[1:] {
+		text := unsafe.StringData(a.Items[0].Text)
+		if text == unsafe.StringData(prefix) || text == unsafe.StringData(name) {
+			t.Errorf("%s: the item shares memory with the script", tell(a))
+		}
+	}
+}
+
 func TestP2BodiesAreNotKept(t *testing.T) {
 	body := strings.Repeat("body", 10)
 	got := answers(t, []api.Op{{Kind: api.Put, Key: "a", Body: body}, {Kind: api.Get, Key: "a"}})

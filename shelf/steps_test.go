@@ -43,6 +43,34 @@ func dropv(key string, n int) step {
 	return step{api.Op{Kind: api.DropV, Key: key, N: n}, api.Answer{}}
 }
 
+// page: a listing whose first page has these items; if more, there is a second one.
+func page(kind int, prefix, delim, after string, n int, more bool, items ...api.Item) step {
+	s := step{api.Op{Kind: kind, Key: prefix, Delim: delim, After: after, N: n}, api.Answer{Items: items}}
+	if more {
+		s.want.Token = someToken
+	}
+	return s
+}
+
+// someToken stands for any token: which one it is, nothing says.
+const someToken = "some token"
+
+func key(text string, version int) api.Item {
+	return api.Item{Kind: api.Key, Text: text, Version: version}
+}
+
+func common(text string) api.Item {
+	return api.Item{Kind: api.Common, Text: text}
+}
+
+func version(text string, number int) api.Item {
+	return api.Item{Kind: api.Version, Text: text, Version: number}
+}
+
+func marker(text string, number int) api.Item {
+	return api.Item{Kind: api.Marker, Text: text, Version: number}
+}
+
 func same(got, want api.Answer) bool {
 	if len(got.Items) == 0 && len(want.Items) == 0 {
 		got.Items, want.Items = nil, nil
@@ -56,7 +84,7 @@ func tellStep(op api.Op) string {
 }
 
 func tell(a api.Answer) string {
-	return fmt.Sprintf("code %d, version %d, body %.120q, items %.60q, token %.60q", a.Code, a.Version, a.Body, fmt.Sprint(a.Items), a.Token)
+	return fmt.Sprintf("code %d, version %d, body %.120q, items %.400q, token %.60q", a.Code, a.Version, a.Body, fmt.Sprint(a.Items), a.Token)
 }
 
 // answers runs a script: one answer a step.
@@ -77,7 +105,11 @@ func check(t *testing.T, steps ...step) {
 		script = append(script, s.op)
 	}
 	for i, got := range answers(t, script) {
-		if !same(got, steps[i].want) {
+		want := steps[i].want
+		if want.Token == someToken && got.Token != "" {
+			want.Token = got.Token
+		}
+		if !same(got, want) {
 			t.Fatalf("step %d (%s): %s, want %s", i, tellStep(steps[i].op), tell(got), tell(steps[i].want))
 		}
 	}
@@ -103,16 +135,20 @@ func oddTexts() []string {
 	return []string{"", "a", "a/b", "/", "\x00", "\xff\xfe", "\u00e4\u20ac", "a\nb", strings.Repeat("k", 40), strings.Repeat("k", 41), strings.Repeat("\xff", 100), strings.Repeat("b", 101), strings.Repeat("long ", 1<<20)}
 }
 
-// mixed makes a script of all kinds of steps, known and unknown, most of them of few keys and of numbers that were given.
+// mixed makes a script of all kinds of steps, known and unknown, most of them of few keys and of numbers that were given,
+// with listings of pages that may be and that may not.
 func mixed(seed uint64, length int) []api.Op {
 	r := rand.New(rand.NewPCG(seed, 0))
-	texts := []string{"a", "a", "a/", "a/b", "b", "b", "", "\xff", strings.Repeat("k", 40), strings.Repeat("k", 41), strings.Repeat("b", 101)}
+	texts := []string{"a", "a", "a/", "a/b", "a/b/c", "/", "b", "b", "", "\xff", strings.Repeat("k", 40), strings.Repeat("k", 41), strings.Repeat("b", 101)}
 	pick := func() string { return texts[r.IntN(len(texts))] }
 	var script []api.Op
 	for range length {
 		op := api.Op{Kind: r.IntN(15) - 1, Key: pick(), Body: pick(), Delim: pick(), After: pick(), N: r.IntN(length), From: r.IntN(length+2) - 1}
-		if r.IntN(2) == 0 {
+		switch r.IntN(4) {
+		case 0, 1:
 			op.Kind = 1 + r.IntN(5)
+		case 2:
+			op.Kind, op.N = api.List+r.IntN(2), r.IntN(22)
 		}
 		script = append(script, op)
 	}

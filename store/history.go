@@ -12,23 +12,23 @@ type Version struct {
 	Marker bool
 }
 
-// history: the versions of a key, the newest one last. States share histories, so none is changed:
+// History is the versions of a key, the newest one last. States share histories, so none is changed:
 // what differs is a new one.
-type history []Version
+type History []Version
 
-// newest presumes a history that is not empty: keys without versions have none.
-func (h history) newest() Version { return h[len(h)-1] }
+// Newest presumes a history that is not empty: keys without versions have none.
+func (h History) Newest() Version { return h[len(h)-1] }
 
-func (h history) find(number int) (int, bool) {
+func (h History) find(number int) (int, bool) {
 	return slices.BinarySearchFunc(h, number, func(v Version, n int) int {
 		return cmp.Compare(v.Number, n)
 	})
 }
 
-func (h history) with(v Version) history {
+func (h History) with(v Version) History {
 	return append(slices.Clone(h), v)
 }
 
-func (h history) without(place int) history {
+func (h History) without(place int) History {
 	return slices.Delete(slices.Clone(h), place, place+1)
 }

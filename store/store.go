@@ -8,11 +8,14 @@ import (
 	"shelf/tree"
 )
 
+// State is all versions of one moment, by their keys: a root that no later step changes.
+type State = tree.Tree[History]
+
 // Store is what is kept now. The zero value is empty.
 type Store struct {
-	histories tree.Tree[history] // of the keys that have a version, never an empty one
-	count     int                // how many versions there are, markers too
-	last      int                // the number given last; it never falls, so that none is given again
+	histories State // of the keys that have a version, never an empty one
+	count     int   // how many versions there are, markers too
+	last      int   // the number given last; it never falls, so that none is given again
 }
 
 // Put makes a new version of the key, and tells its number.
@@ -46,10 +49,10 @@ func (s *Store) Get(key string) (Version, api.Errno) {
 		return Version{}, api.ErrKey
 	}
 	h, ok := s.histories.Get(key)
-	if !ok || h.newest().Marker {
+	if !ok || h.Newest().Marker {
 		return Version{}, api.ErrNone
 	}
-	return h.newest(), api.OK
+	return h.Newest(), api.OK
 }
 
 // GetVersion tells the version of the key that has the number.
@@ -79,6 +82,9 @@ func (s *Store) DropVersion(key string, number int) api.Errno {
 	return api.OK
 }
 
+// State tells what is kept now.
+func (s *Store) State() State { return s.histories }
+
 func isKey(key string) bool { return 1 <= len(key) && len(key) <= api.MaxKey }
 
 func (s *Store) isFull() bool { return s.count >= api.MaxVersions }
@@ -93,7 +99,7 @@ func (s *Store) add(key string, v Version) int {
 }
 
 // find tells the history of the key, and the place of the number in it.
-func (s *Store) find(key string, number int) (history, int, api.Errno) {
+func (s *Store) find(key string, number int) (History, int, api.Errno) {
 	if !isKey(key) {
 		return nil, 0, api.ErrKey
 	}

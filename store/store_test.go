@@ -19,11 +19,11 @@ func TestEarlierStateStays(t *testing.T) {
 	s.Drop("b")
 	s.DropVersion("b", 4)
 	for _, want := range []struct {
-		key string
-		history
+		key     string
+		history History
 	}{
-		{"a", history{{Number: 1, Body: "1"}, {Number: 2, Body: "2"}, {Number: 3, Body: "3"}}},
-		{"b", history{{Number: 4, Body: "4"}}},
+		{"a", History{{Number: 1, Body: "1"}, {Number: 2, Body: "2"}, {Number: 3, Body: "3"}}},
+		{"b", History{{Number: 4, Body: "4"}}},
 	} {
 		if got, _ := earlier.histories.Get(want.key); !reflect.DeepEqual(got, want.history) {
 			t.Errorf("%q in the earlier state: %v, want %v", want.key, got, want.history)

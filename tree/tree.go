@@ -3,6 +3,7 @@ package tree
 
 import (
 	"cmp"
+	"iter"
 	"slices"
 )
 
@@ -25,15 +26,21 @@ type kid[V any] struct {
 
 // Get tells the value of a key, and whether there is one.
 func (t Tree[V]) Get(key string) (V, bool) {
-	var none V
-	n := t.root
-	for i := 0; n != nil && i < len(key); i++ {
-		n = n.child(key[i])
-	}
+	n := t.root.follow(key)
 	if n == nil || !n.full {
+		var none V
 		return none, false
 	}
 	return n.value, true
+}
+
+// From goes through the keys that begin with the prefix, in their order, and tells each one's value.
+func (t Tree[V]) From(prefix string) iter.Seq2[string, V] {
+	return func(yield func(string, V) bool) {
+		if n := t.root.follow(prefix); n != nil {
+			n.walk([]byte(prefix), yield)
+		}
+	}
 }
 
 // With tells the state in which the key has the value.
@@ -61,6 +68,28 @@ func (n *node[V]) child(label byte) *node[V] {
 		return nil
 	}
 	return n.kids[i].below
+}
+
+// follow tells the node to which the text leads, nil if there is none.
+func (n *node[V]) follow(text string) *node[V] {
+	for i := 0; n != nil && i < len(text); i++ {
+		n = n.child(text[i])
+	}
+	return n
+}
+
+// walk goes through n, which stands at the key, and what is below it, until yield wants no more.
+// A key goes ahead of those that begin with it, so n goes ahead of its kids.
+func (n *node[V]) walk(key []byte, yield func(string, V) bool) bool {
+	if n.full && !yield(string(key), n.value) {
+		return false
+	}
+	for _, k := range n.kids {
+		if !k.below.walk(append(key, k.label), yield) {
+			return false
+		}
+	}
+	return true
 }
 
 // fresh tells a node that may still be changed: other states may share n and its kids.

@@ -128,3 +128,79 @@ func TestKidsAreOrdered(t *testing.T) {
 		t.Errorf("not in the order of bytes: %v", labels)
 	}
 }
+
+func TestFromTellsEachKeyInOrder(t *testing.T) {
+	r := rand.New(rand.NewPCG(5, 6))
+	var state Tree[int]
+	kept := map[string]int{}
+	for i := range 300 {
+		key := text(r)
+		state, kept[key] = state.With(key, i), i
+		gone := text(r)
+		state = state.Without(gone)
+		delete(kept, gone)
+	}
+	for _, prefix := range allTexts() {
+		var want, got []string
+		for _, key := range slices.Sorted(maps.Keys(kept)) {
+			if strings.HasPrefix(key, prefix) {
+				want = append(want, key)
+			}
+		}
+		for key, value := range state.From(prefix) {
+			got = append(got, key)
+			if value != kept[key] {
+				t.Errorf("%q: %d, want %d", key, value, kept[key])
+			}
+		}
+		if !slices.Equal(got, want) {
+			t.Fatalf("from %q: %q, want %q", prefix, got, want)
+		}
+	}
+}
+
+func TestFromOfNothing(t *testing.T) {
+	var empty Tree[int]
+	for _, state := range []Tree[int]{empty, empty.With("ab", 1)} {
+		for _, prefix := range []string{"abc", "b", "\x00", strings.Repeat("a", 1<<20)} {
+			for key := range state.From(prefix) {
+				t.Errorf("from %.20q: %q", prefix, key)
+			}
+		}
+	}
+	for key := range empty.From("") {
+		t.Errorf("of an empty tree: %q", key)
+	}
+}
+
+func TestFromStopsWhenAsked(t *testing.T) {
+	var state Tree[int]
+	for _, key := range []string{"a", "ab", "abc", "b", "ba", "c"} {
+		state = state.With(key, 0)
+	}
+	for stop := 1; stop <= 6; stop++ {
+		count := 0
+		for range state.From("") {
+			count++
+			if count == stop {
+				break
+			}
+		}
+		if count != stop {
+			t.Errorf("%d keys, want %d", count, stop)
+		}
+	}
+}
+
+func TestFromGoesThroughTheStateItWasAskedOf(t *testing.T) {
+	var state Tree[int]
+	state = state.With("a", 1).With("b", 2).With("c", 3)
+	var got []string
+	for key := range state.From("") {
+		got = append(got, key)
+		state = state.Without("b").With("d", 4)
+	}
+	if !slices.Equal(got, []string{"a", "b", "c"}) {
+		t.Errorf("keys put and taken away on the way are seen: %q", got)
+	}
+}

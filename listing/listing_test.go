@@ -1,0 +1,135 @@
+package listing
+
+import (
+	"slices"
+	"testing"
+
+	"shelf/api"
+	"shelf/store"
+)
+
+func kept(keys ...string) *store.Store {
+	s := &store.Store{}
+	for _, key := range keys {
+		s.Put(key, "")
+	}
+	return s
+}
+
+func read(q Query, state store.State) []api.Item {
+	var all []api.Item
+	for item := range q.items(state) {
+		all = append(all, item)
+	}
+	return all
+}
+
+func sameItems(t *testing.T, what string, got, want []api.Item) {
+	t.Helper()
+	if !slices.Equal(got, want) {
+		t.Errorf("%s: %q, want %q", what, texts(got), texts(want))
+	}
+}
+
+func texts(items []api.Item) []string {
+	var l []string
+	for _, item := range items {
+		l = append(l, item.Text)
+	}
+	return l
+}
+
+func TestItemsOfAStateStay(t *testing.T) {
+	s := kept("a", "b/c", "b/d", "e")
+	s.Drop("a")
+	queries := []Query{{}, {Versions: true}, {Delim: "/"}, {Versions: true, Delim: "/", After: "a"}, {Prefix: "b", Versions: true}}
+	state := s.State()
+	var before [][]api.Item
+	for _, q := range queries {
+		before = append(before, read(q, state))
+	}
+	s.DropVersion("a", 1)
+	s.Put("a", "x")
+	s.Drop("b/c")
+	s.DropVersion("b/d", 3)
+	s.Put("z", "x")
+	for i, q := range queries {
+		sameItems(t, "the items behind changes", read(q, state), before[i])
+	}
+}
+
+func TestMoreItemsThanTheChannelHasRoom(t *testing.T) {
+	var s store.Store
+	for range api.MaxVersions {
+		s.Put("a", "")
+	}
+	all := read(Query{Versions: true}, s.State())
+	if len(all) != api.MaxVersions {
+		t.Fatalf("%d items of %d versions", len(all), api.MaxVersions)
+	}
+	for i, item := range all {
+		if item.Version != api.MaxVersions-i {
+			t.Fatalf("item %d: version %d", i, item.Version)
+		}
+	}
+}
+
+func TestPages(t *testing.T) {
+	s := kept("a", "b", "c", "d", "e")
+	for _, c := range []struct {
+		size, page int
+		want       []string
+		more       bool
+	}{
+		{2, 1, []string{"a", "b"}, true}, {2, 2, []string{"c", "d"}, true}, {2, 3, []string{"e"}, false},
+		{1, 4, []string{"d"}, true}, {1, 5, []string{"e"}, false}, {5, 1, []string{"a", "b", "c", "d", "e"}, false}, {4, 2, []string{"e"}, false},
+	} {
+		got := listing{number: 1, state: s.State(), size: c.size}.page(c.page)
+		if !slices.Equal(texts(got.Items), c.want) || (got.Token != "") != c.more {
+			t.Errorf("page %d of pages of %d: %q, token %q, want %q, %t", c.page, c.size, texts(got.Items), got.Token, c.want, c.more)
+		}
+	}
+}
+
+func TestOpenListingKeepsItsRoot(t *testing.T) {
+	s := kept("a", "b", "c", "d")
+	var l Listings
+	l.Begin(s.State(), Query{}, 2)
+	s.Drop("c")
+	s.Put("bb", "")
+	if got := l.open[0].page(2); !slices.Equal(texts(got.Items), []string{"c", "d"}) {
+		t.Errorf("the second page, behind changes: %q", texts(got.Items))
+	}
+}
+
+func TestTokensOfAllPagesDiffer(t *testing.T) {
+	told := map[string]int{}
+	for number := 1; number <= 120; number++ {
+		for page := 2; page <= 200; page++ {
+			told[listing{number: number}.token(page)]++
+		}
+	}
+	if len(told) != 120*199 {
+		t.Errorf("%d tokens for %d pages", len(told), 120*199)
+	}
+}
+
+func TestRefusedListingsLeaveNothing(t *testing.T) {
+	state := kept("a", "b").State()
+	var l Listings
+	for range api.MaxOpen {
+		l.Begin(state, Query{}, 1)
+	}
+	for _, c := range []struct {
+		size int
+		code api.Errno
+	}{{1, api.ErrMany}, {0, api.ErrMax}, {21, api.ErrMax}} {
+		page, code := l.Begin(state, Query{}, c.size)
+		if code != c.code || page.Items != nil || page.Token != "" {
+			t.Errorf("pages of %d: %q, token %q, code %d, want %d alone", c.size, texts(page.Items), page.Token, code, c.code)
+		}
+	}
+	if len(l.open) != api.MaxOpen || l.begun != api.MaxOpen {
+		t.Errorf("%d are open, %d begun", len(l.open), l.begun)
+	}
+}
