@@ -2,6 +2,7 @@
 package listing
 
 import (
+	"slices"
 	"strconv"
 
 	"shelf/api"
@@ -10,8 +11,9 @@ import (
 
 // Listings are those of one script that are open. The zero value has none.
 type Listings struct {
-	open  []listing
-	begun int // how many were ever open: no two have the same tokens
+	open  []listing        // in the order in which they were begun
+	begun int              // how many were ever open: no two have the same tokens
+	told  map[string]place // of all tokens that were told: those of listings that are gone are known too
 }
 
 // listing: its items are not kept, but the root that they come from.
@@ -20,6 +22,12 @@ type listing struct {
 	state  store.State
 	query  Query
 	size   int // how many items a page has
+	left   int // units of time until it ends, above 0
+}
+
+// place is where a token leads.
+type place struct {
+	listing, page int
 }
 
 // Page is a page of a listing, and the token of the next one, if there is one.
@@ -33,17 +41,60 @@ func (l *Listings) Begin(state store.State, query Query, size int) (Page, api.Er
 	if size < 1 || size > api.MaxPage {
 		return Page{}, api.ErrMax
 	}
-	begun := listing{number: l.begun + 1, state: state, query: query, size: size}
+	begun := listing{number: l.begun + 1, state: state, query: query, size: size, left: api.Lease}
 	page := begun.page(1)
-	if page.Token == "" {
+	switch {
+	case page.Token == "":
 		return page, api.OK
-	}
-	if len(l.open) >= api.MaxOpen {
+	case len(l.open) >= api.MaxOpen:
 		return Page{}, api.ErrMany
 	}
 	l.open = append(l.open, begun)
 	l.begun++
+	l.keep(page.Token, place{begun.number, 2})
 	return page, api.OK
+}
+
+// Next tells the page to which the token leads, and gives its listing a whole lease again.
+func (l *Listings) Next(token string) (Page, api.Errno) {
+	at, ok := l.told[token]
+	if !ok {
+		return Page{}, api.ErrToken
+	}
+	i := slices.IndexFunc(l.open, func(o listing) bool { return o.number == at.listing })
+	if i < 0 {
+		return Page{}, api.ErrGone
+	}
+	l.open[i].left = api.Lease
+	page := l.open[i].page(at.page)
+	if page.Token != "" {
+		l.keep(page.Token, place{at.listing, at.page + 1})
+	}
+	return page, api.OK
+}
+
+// Pass lets so many units of time go by. Listings that end are let go, and their roots with them.
+func (l *Listings) Pass(units int) {
+	for i := range l.open {
+		l.open[i].left -= units
+	}
+	l.open = slices.DeleteFunc(l.open, func(o listing) bool { return o.left <= 0 })
+}
+
+// Leases tells an item for each open listing: the units of time that are left to it.
+func (l *Listings) Leases() []api.Item {
+	var items []api.Item
+	for _, o := range l.open {
+		items = append(items, api.Item{Version: o.left})
+	}
+	return items
+}
+
+func (l *Listings) keep(token string, at place) {
+	if l.told == nil {
+		l.told = map[string]place{}
+	}
+	l.told[token] = at
 }
 
 // page tells the page with that number, from 1 on.

@@ -102,6 +102,98 @@ func TestOpenListingKeepsItsRoot(t *testing.T) {
 	}
 }
 
+func left(l *Listings) []int {
+	var units []int
+	for _, item := range l.Leases() {
+		units = append(units, item.Version)
+	}
+	return units
+}
+
+func sameLeases(t *testing.T, what string, l *Listings, want ...int) {
+	t.Helper()
+	if got := left(l); !slices.Equal(got, want) {
+		t.Errorf("%s: %d units are left, want %d", what, got, want)
+	}
+}
+
+func TestNextPages(t *testing.T) {
+	s := kept("a", "b", "c", "d", "e")
+	var l Listings
+	page, _ := l.Begin(s.State(), Query{}, 2)
+	for _, want := range [][]string{{"c", "d"}, {"e"}} {
+		s.Drop(want[0])
+		l.Pass(api.Lease - 1)
+		again, _ := l.Next(page.Token)
+		next, code := l.Next(page.Token)
+		if code != api.OK || !slices.Equal(texts(next.Items), want) || next.Token != again.Token {
+			t.Errorf("code %d, %q, token %q, want %q, token %q", code, texts(next.Items), next.Token, want, again.Token)
+		}
+		sameLeases(t, "behind a page", &l, api.Lease)
+		page = next
+	}
+	if page.Token != "" {
+		t.Errorf("the token %q of no page", page.Token)
+	}
+}
+
+func TestTokensThatLeadNowhere(t *testing.T) {
+	state := kept("a", "b", "c").State()
+	var l Listings
+	if page, code := l.Next(""); code != api.ErrToken || page.Items != nil || page.Token != "" {
+		t.Errorf("no listing was ever begun: %+v, %d", page, code)
+	}
+	l.Begin(state, Query{}, 3)
+	first, _ := l.Begin(state, Query{}, 1)
+	for _, token := range []string{"", "1", "1.1", "1.3", "1.4", "2.2", "01.2", "1.02", " 1.2"} {
+		if page, code := l.Next(token); code != api.ErrToken || page.Items != nil || page.Token != "" {
+			t.Errorf("%q: %+v, %d", token, page, code)
+		}
+	}
+	l.Pass(api.Lease)
+	if page, code := l.Next(first.Token); code != api.ErrGone || page.Items != nil || page.Token != "" {
+		t.Errorf("a listing that is gone: %+v, %d", page, code)
+	}
+}
+
+func TestLeases(t *testing.T) {
+	state := kept("a", "b").State()
+	var l Listings
+	sameLeases(t, "none open", &l)
+	var tokens []string
+	for range api.MaxOpen {
+		page, _ := l.Begin(state, Query{}, 1)
+		tokens = append(tokens, page.Token)
+		l.Pass(2)
+	}
+	sameLeases(t, "begun", &l, 4, 6, 8)
+	l.Next(tokens[0])
+	l.Pass(0)
+	sameLeases(t, "the first one told again", &l, 10, 6, 8)
+	l.Pass(6)
+	sameLeases(t, "the second one gone", &l, 4, 2)
+	l.Begin(state, Query{}, 1)
+	sameLeases(t, "another one begun", &l, 4, 2, 10)
+	l.Pass(api.MaxTick)
+	sameLeases(t, "all gone", &l)
+}
+
+func TestListingsThatEndLetTheirRootsGo(t *testing.T) {
+	var l Listings
+	for range api.MaxOpen {
+		l.Begin(kept("a", "b").State(), Query{}, 1)
+		l.Pass(4)
+	}
+	for _, o := range l.open[len(l.open):cap(l.open)] {
+		if o.state != (store.State{}) {
+			t.Error("a root is kept of a listing that is gone")
+		}
+	}
+	if len(l.open) != 2 {
+		t.Errorf("%d are open", len(l.open))
+	}
+}
+
 func TestTokensOfAllPagesDiffer(t *testing.T) {
 	told := map[string]int{}
 	for number := 1; number <= 120; number++ {
@@ -129,7 +221,7 @@ func TestRefusedListingsLeaveNothing(t *testing.T) {
 			t.Errorf("pages of %d: %q, token %q, code %d, want %d alone", c.size, texts(page.Items), page.Token, code, c.code)
 		}
 	}
-	if len(l.open) != api.MaxOpen || l.begun != api.MaxOpen {
-		t.Errorf("%d are open, %d begun", len(l.open), l.begun)
+	if len(l.open) != api.MaxOpen || l.begun != api.MaxOpen || len(l.told) != api.MaxOpen {
+		t.Errorf("%d are open, %d begun, %d tokens told", len(l.open), l.begun, len(l.told))
 	}
 }

@@ -10,11 +10,25 @@ import (
 	"shelf/api"
 )
 
-// model: the plainest shelf: a list of all versions, in the order in which they were made.
+// model: the plainest shelf: a list of all versions, in the order in which they were made, and a list of all listings,
+// in the order in which they were begun, each with all its items.
 type model struct {
-	rows []row
-	last int
-	open int
+	rows  []row
+	last  int
+	time  int
+	begun []*begun
+	leads []lead // of each step that was answered
+}
+
+type begun struct {
+	items     []api.Item
+	size, end int
+}
+
+// lead is what the token of an answer tells, if it has one.
+type lead struct {
+	of   *begun
+	page int // from 0 on
 }
 
 type row struct {
@@ -24,12 +38,30 @@ type row struct {
 }
 
 func (m *model) answer(op api.Op) api.Answer {
-	if op.Kind == api.List || op.Kind == api.Vers {
-		return m.list(op)
+	var a api.Answer
+	var to lead
+	switch op.Kind {
+	case api.Put, api.Get, api.GetV, api.Drop, api.DropV:
+		a = m.ofKey(op)
+	case api.List, api.Vers:
+		a, to = m.list(op)
+	case api.Next:
+		a, to = m.next(op)
+	case api.Tick:
+		a = m.tick(op)
+	case api.Stats:
+		a = m.stats()
+	default:
+		a = api.Answer{Code: api.ErrKind}
 	}
-	if op.Kind < api.Put || op.Kind > api.DropV {
-		return api.Answer{Code: api.ErrKind}
+	if to.of != nil {
+		a.Token = someToken
 	}
+	m.leads = append(m.leads, to)
+	return a
+}
+
+func (m *model) ofKey(op api.Op) api.Answer {
 	if op.Key == "" || len(op.Key) > 40 {
 		return api.Answer{Code: api.ErrKey}
 	}
@@ -80,19 +112,60 @@ func (m *model) make(op api.Op) api.Answer {
 	return api.Answer{Version: m.last}
 }
 
-func (m *model) list(op api.Op) api.Answer {
+func (m *model) list(op api.Op) (api.Answer, lead) {
 	if op.N < 1 || op.N > 20 {
-		return api.Answer{Code: api.ErrMax}
+		return api.Answer{Code: api.ErrMax}, lead{}
 	}
-	items := m.items(op)
-	if len(items) <= op.N {
-		return api.Answer{Items: items}
+	b := &begun{items: m.items(op), size: op.N}
+	if len(b.items) > op.N {
+		if len(m.stats().Items) == 3 {
+			return api.Answer{Code: api.ErrMany}, lead{}
+		}
+		m.begun = append(m.begun, b)
 	}
-	if m.open == 3 {
-		return api.Answer{Code: api.ErrMany}
+	return m.page(b, 0)
+}
+
+// next asks the Body nothing: it is no token where the model is asked.
+func (m *model) next(op api.Op) (api.Answer, lead) {
+	var at lead
+	if op.From >= 0 && op.From < len(m.leads) {
+		at = m.leads[op.From]
 	}
-	m.open++
-	return api.Answer{Items: items[:op.N], Token: someToken}
+	switch {
+	case at.of == nil:
+		return api.Answer{Code: api.ErrToken}, lead{}
+	case m.time >= at.of.end:
+		return api.Answer{Code: api.ErrGone}, lead{}
+	}
+	return m.page(at.of, at.page)
+}
+
+func (m *model) page(b *begun, number int) (api.Answer, lead) {
+	b.end = m.time + 10
+	rest := b.items[number*b.size:]
+	if len(rest) <= b.size {
+		return api.Answer{Items: rest}, lead{}
+	}
+	return api.Answer{Items: rest[:b.size]}, lead{b, number + 1}
+}
+
+func (m *model) tick(op api.Op) api.Answer {
+	if op.N < 0 || op.N > 1000 {
+		return api.Answer{Code: api.ErrTime}
+	}
+	m.time += op.N
+	return api.Answer{}
+}
+
+func (m *model) stats() api.Answer {
+	a := api.Answer{Version: len(m.rows)}
+	for _, b := range m.begun {
+		if m.time < b.end {
+			a.Items = append(a.Items, api.Item{Version: b.end - m.time})
+		}
+	}
+	return a
 }
 
 // items makes an item of each row that is asked for, drops those that are there already, and sorts what is left.
@@ -197,5 +270,102 @@ func TestP4AgainstModel(t *testing.T) {
 			steps = append(steps, step{op, m.answer(op)})
 		}
 		check(t, steps...)
+	}
+}
+
+// paging makes steps that mostly find open listings: pages of few items, NEXT by late steps, little time between.
+func paging(r *rand.Rand, m *model) api.Op {
+	wide := api.Op{From: len(m.leads) - r.IntN(25), Body: "no token", N: r.IntN(5)}
+	switch r.IntN(10) {
+	case 0, 1, 2:
+		op := lively(r, []int{api.Put, api.Put, api.Put, api.Drop, api.DropV}, m)
+		if r.IntN(2) == 0 {
+			op.Key = fewBytes(r, 3)
+		}
+		return op
+	case 3, 4:
+		op := query(r)
+		op.Key, op.N = fewBytes(r, 1), 1+r.IntN(4)
+		return op
+	case 5, 6, 7:
+		wide.Kind = api.Next
+		// Down from there to a step whose answer has a token.
+		for r.IntN(20) > 0 && wide.From > 0 && (wide.From >= len(m.leads) || m.leads[wide.From].of == nil) {
+			wide.From--
+		}
+	case 8:
+		wide.Kind = api.Tick
+		if r.IntN(8) == 0 {
+			wide.N = edgeNumbers()[r.IntN(len(edgeNumbers()))]
+		}
+	case 9:
+		wide.Kind = api.Stats
+	}
+	return wide
+}
+
+// sameTokens: one token for each page that is led to, and no token for two.
+func sameTokens(t *testing.T, got []api.Answer, leads []lead) {
+	t.Helper()
+	tokens, places := map[lead]string{}, map[string]lead{}
+	for i, a := range got {
+		to := leads[i]
+		if to.of == nil {
+			continue
+		}
+		if text, ok := tokens[to]; ok && text != a.Token {
+			t.Fatalf("step %d: %q, and %q ahead of it, for one page", i, a.Token, text)
+		}
+		if place, ok := places[a.Token]; ok && place != to {
+			t.Fatalf("step %d: %q for two pages", i, a.Token)
+		}
+		tokens[to], places[a.Token] = a.Token, to
+	}
+}
+
+// byBody makes each NEXT name its token by its Body; those that name none get one that is told later, if there is one.
+func byBody(steps []step, got []api.Answer) []step {
+	steps = slices.Clone(steps)
+	told := func(i int) string {
+		if i < 0 || i >= len(got) {
+			return ""
+		}
+		return got[i].Token
+	}
+	for i := range steps {
+		op := &steps[i].op
+		switch {
+		case op.Kind != api.Next:
+		case op.From < i && told(op.From) != "":
+			op.From, op.Body = i+i%2, told(op.From)
+		default:
+			op.Body = firstToldBehind(got, i)
+		}
+	}
+	return steps
+}
+
+func firstToldBehind(got []api.Answer, i int) string {
+	for j := len(got) - 1; j >= i; j-- {
+		first := slices.IndexFunc(got, func(a api.Answer) bool { return a.Token == got[j].Token })
+		if got[j].Token != "" && first >= i {
+			return got[j].Token
+		}
+	}
+	return "no token"
+}
+
+func TestP5AgainstModel(t *testing.T) {
+	for seed := range uint64(1000) {
+		r := rand.New(rand.NewPCG(seed, 13))
+		var m model
+		var steps []step
+		for range 150 {
+			op := paging(r, &m)
+			steps = append(steps, step{op, m.answer(op)})
+		}
+		got := check(t, steps...)
+		sameTokens(t, got, m.leads)
+		sameAnswers(t, "tokens by Body", check(t, byBody(steps, got)...), got)
 	}
 }

@@ -64,10 +64,11 @@ func TestP1NoGoroutineIsLeft(t *testing.T) {
 	for range api.MaxVersions {
 		script = append(script, api.Op{Kind: api.Put, Key: "a"})
 	}
-	// Far more items than the page has, and listings that are refused.
+	// Far more items than the page has, and listings and pages that are refused.
 	for range 10 {
-		script = append(script, api.Op{Kind: api.Vers, N: 1}, api.Op{Kind: api.Vers, N: 21})
+		script = append(script, api.Op{Kind: api.Vers, N: 1}, api.Op{Kind: api.Vers, N: 21}, api.Op{Kind: api.Next, From: api.MaxVersions}, api.Op{Kind: api.Next, From: -1})
 	}
+	script = append(script, api.Op{Kind: api.Tick, N: api.Lease}, api.Op{Kind: api.Next, From: api.MaxVersions})
 	answers(t, script)
 	// One that has closed its channel may still be on its way out.
 	for range 1000 {

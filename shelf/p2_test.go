@@ -98,7 +98,7 @@ func TestP2ListsAreNewMemory(t *testing.T) {
 	}
 }
 
-// filled: three listings that stay open and, behind them, whole ones of the same items.
+// filled: three listings that stay open and, behind them, whole ones of the same items, further pages, each told twice, and their leases.
 func filled() []api.Op {
 	var script []api.Op
 	for _, k := range []string{"a", "b", "c/d", "c/e", "f"} {
@@ -106,6 +106,10 @@ func filled() []api.Op {
 	}
 	for _, n := range []int{1, 2, 3, 20, 20} {
 		script = append(script, api.Op{Kind: api.List, N: n}, api.Op{Kind: api.Vers, N: 20}, api.Op{Kind: api.List, N: 20, Delim: "/"})
+	}
+	for _, from := range []int{15, 18, 21} {
+		further := api.Op{Kind: api.Next, From: from}
+		script = append(script, further, further, api.Op{Kind: api.Stats}, api.Op{Kind: api.Stats})
 	}
 	return script
 }
@@ -115,7 +119,7 @@ func TestP2ItemsAreNewMemory(t *testing.T) {
 	first, second := answers(t, script), answers(t, script)
 	want := deepCopy(first)
 	for i := range first {
-		if script[i].Kind == api.List && len(first[i].Items) == 0 {
+		if script[i].Kind >= api.List && len(first[i].Items) == 0 {
 			t.Fatal("a list without items, in which no shared memory could be seen")
 		}
 		scribble(first[i].Items)

@@ -262,10 +262,7 @@ func TestP4WhatIsNotOpenDoesNotCount(t *testing.T) {
 
 func TestP4TokensDiffer(t *testing.T) {
 	steps, _, _ := many(9)
-	var script []api.Op
-	for _, s := range steps {
-		script = append(script, s.op)
-	}
+	script := scriptOf(steps)
 	same := api.Op{Kind: api.List, N: 1}
 	told := map[string]int{}
 	for _, a := range answers(t, append(script, same, same, api.Op{Kind: api.Vers, N: 1}, same, api.Op{Kind: api.Vers, N: 20})) {

@@ -9,18 +9,18 @@ import (
 
 // Run answers a script, step by step.
 func Run(script []api.Op) []api.Answer {
-	var at desk
-	answers := make([]api.Answer, 0, len(script))
+	at := desk{answers: make([]api.Answer, 0, len(script))}
 	for _, op := range script {
-		answers = append(answers, at.answer(op))
+		at.answers = append(at.answers, at.answer(op))
 	}
-	return answers
+	return at.answers
 }
 
 // desk: what the steps of one script find and leave.
 type desk struct {
 	kept     store.Store
 	listings listing.Listings
+	answers  []api.Answer // to the steps ahead
 }
 
 func (d *desk) answer(op api.Op) api.Answer {
@@ -42,10 +42,33 @@ func (d *desk) answer(op api.Op) api.Answer {
 	case api.List, api.Vers:
 		page, code := d.listings.Begin(d.kept.State(), query(op), op.N)
 		return api.Answer{Code: code, Items: page.Items, Token: page.Token}
+	case api.Next:
+		page, code := d.listings.Next(d.token(op))
+		return api.Answer{Code: code, Items: page.Items, Token: page.Token}
+	case api.Tick:
+		return api.Answer{Code: d.tick(op.N)}
+	case api.Stats:
+		return api.Answer{Version: d.kept.Count(), Items: d.listings.Leases()}
 	}
 	return api.Answer{Code: api.ErrKind}
 }
 
 func query(op api.Op) listing.Query {
 	return listing.Query{Versions: op.Kind == api.Vers, Prefix: op.Key, Delim: op.Delim, After: op.After}
+}
+
+// token tells the one that a NEXT means.
+func (d *desk) token(op api.Op) string {
+	if 0 <= op.From && op.From < len(d.answers) && d.answers[op.From].Token != "" {
+		return d.answers[op.From].Token
+	}
+	return op.Body
+}
+
+func (d *desk) tick(units int) api.Errno {
+	if units < 0 || units > api.MaxTick {
+		return api.ErrTime
+	}
+	d.listings.Pass(units)
+	return api.OK
 }

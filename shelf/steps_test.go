@@ -52,6 +52,33 @@ func page(kind int, prefix, delim, after string, n int, more bool, items ...api.
 	return s
 }
 
+// next: a NEXT by a step ahead; the page has these items; if more, there is another one behind it.
+func next(from int, more bool, items ...api.Item) step {
+	s := page(api.Next, "", "", "", 0, more, items...)
+	s.op.From = from
+	return s
+}
+
+// nextBy: a NEXT by its Body.
+func nextBy(token string, more bool, items ...api.Item) step {
+	s := next(-1, more, items...)
+	s.op.Body = token
+	return s
+}
+
+func tick(n int) step {
+	return step{op: api.Op{Kind: api.Tick, N: n}}
+}
+
+// stats: so many versions, and for each open listing the time that is left to it.
+func stats(count int, left ...int) step {
+	s := step{api.Op{Kind: api.Stats}, api.Answer{Version: count}}
+	for _, n := range left {
+		s.want.Items = append(s.want.Items, api.Item{Version: n})
+	}
+	return s
+}
+
 // someToken stands for any token: which one it is, nothing says.
 const someToken = "some token"
 
@@ -97,14 +124,19 @@ func answers(t *testing.T, script []api.Op) []api.Answer {
 	return got
 }
 
-// check runs the steps as one script, and holds the answers against those that they must have.
-func check(t *testing.T, steps ...step) {
-	t.Helper()
+func scriptOf(steps []step) []api.Op {
 	var script []api.Op
 	for _, s := range steps {
 		script = append(script, s.op)
 	}
-	for i, got := range answers(t, script) {
+	return script
+}
+
+// check runs the steps as one script, holds the answers against those that they must have, and tells them.
+func check(t *testing.T, steps ...step) []api.Answer {
+	t.Helper()
+	all := answers(t, scriptOf(steps))
+	for i, got := range all {
 		want := steps[i].want
 		if want.Token == someToken && got.Token != "" {
 			want.Token = got.Token
@@ -113,6 +145,7 @@ func check(t *testing.T, steps ...step) {
 			t.Fatalf("step %d (%s): %s, want %s", i, tellStep(steps[i].op), tell(got), tell(steps[i].want))
 		}
 	}
+	return all
 }
 
 func sameAnswers(t *testing.T, what string, got, want []api.Answer) {
@@ -136,7 +169,7 @@ func oddTexts() []string {
 }
 
 // mixed makes a script of all kinds of steps, known and unknown, most of them of few keys and of numbers that were given,
-// with listings of pages that may be and that may not.
+// with listings of pages that may be and that may not, and further pages of those begun lately.
 func mixed(seed uint64, length int) []api.Op {
 	r := rand.New(rand.NewPCG(seed, 0))
 	texts := []string{"a", "a", "a/", "a/b", "a/b/c", "/", "b", "b", "", "\xff", strings.Repeat("k", 40), strings.Repeat("k", 41), strings.Repeat("b", 101)}
@@ -144,11 +177,13 @@ func mixed(seed uint64, length int) []api.Op {
 	var script []api.Op
 	for range length {
 		op := api.Op{Kind: r.IntN(15) - 1, Key: pick(), Body: pick(), Delim: pick(), After: pick(), N: r.IntN(length), From: r.IntN(length+2) - 1}
-		switch r.IntN(4) {
+		switch r.IntN(6) {
 		case 0, 1:
 			op.Kind = 1 + r.IntN(5)
 		case 2:
 			op.Kind, op.N = api.List+r.IntN(2), r.IntN(22)
+		case 3, 4:
+			op.Kind, op.N, op.From = api.Next+r.IntN(3), r.IntN(5), len(script)-r.IntN(12)
 		}
 		script = append(script, op)
 	}

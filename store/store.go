@@ -85,6 +85,9 @@ func (s *Store) DropVersion(key string, number int) api.Errno {
 // State tells what is kept now.
 func (s *Store) State() State { return s.histories }
 
+// Count tells how many versions there are, markers too.
+func (s *Store) Count() int { return s.count }
+
 func isKey(key string) bool { return 1 <= len(key) && len(key) <= api.MaxKey }
 
 func (s *Store) isFull() bool { return s.count >= api.MaxVersions }

@@ -54,8 +54,8 @@ func TestKeyWithoutVersionsIsNotKept(t *testing.T) {
 	if h, ok := s.histories.Get("key"); ok {
 		t.Errorf("a history without versions: %v", h)
 	}
-	if s.count != 0 {
-		t.Errorf("%d versions of an empty store", s.count)
+	if s.Count() != 0 {
+		t.Errorf("%d versions of an empty store", s.Count())
 	}
 }
 
