@@ -81,6 +81,9 @@ func (l *Listings) Pass(units int) {
 	l.open = slices.DeleteFunc(l.open, func(o listing) bool { return o.left <= 0 })
 }
 
+// EndAll lets all open listings go. Their tokens stay known, and are not told again.
+func (l *Listings) EndAll() { l.open = nil }
+
 // Leases tells an item for each open listing: the units of time that are left to it.
 func (l *Listings) Leases() []api.Item {
 	var items []api.Item

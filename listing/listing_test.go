@@ -194,6 +194,33 @@ func TestListingsThatEndLetTheirRootsGo(t *testing.T) {
 	}
 }
 
+func TestEndAll(t *testing.T) {
+	state := kept("a", "b", "c").State()
+	var l Listings
+	l.EndAll()
+	told := map[string]bool{}
+	for range 3 {
+		for range api.MaxOpen {
+			page, code := l.Begin(state, Query{}, 1)
+			next, _ := l.Next(page.Token)
+			if code != api.OK || told[page.Token] || told[next.Token] {
+				t.Fatalf("code %d, tokens %q, %q, told ahead: %v", code, page.Token, next.Token, told)
+			}
+			told[page.Token], told[next.Token] = true, true
+		}
+		l.EndAll()
+		sameLeases(t, "all ended", &l)
+		for token := range told {
+			if _, code := l.Next(token); code != api.ErrGone {
+				t.Errorf("%q of a listing that is gone: code %d", token, code)
+			}
+		}
+		if cap(l.open) != 0 {
+			t.Error("there is room in which roots may be kept")
+		}
+	}
+}
+
 func TestTokensOfAllPagesDiffer(t *testing.T) {
 	told := map[string]int{}
 	for number := 1; number <= 120; number++ {

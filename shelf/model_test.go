@@ -2,6 +2,8 @@ package shelf_test
 
 import (
 	"cmp"
+	"fmt"
+	"math"
 	"math/rand/v2"
 	"slices"
 	"strings"
@@ -13,11 +15,16 @@ import (
 // model: the plainest shelf: a list of all versions, in the order in which they were made, and a list of all listings,
 // in the order in which they were begun, each with all its items.
 type model struct {
-	rows  []row
-	last  int
-	time  int
+	kept
 	begun []*begun
-	leads []lead // of each step that was answered
+	leads []lead  // of each step that was answered
+	saved []*kept // of each step that was answered: what it saved, if it is a SAVE
+}
+
+type kept struct {
+	rows []row
+	last int
+	time int
 }
 
 type begun struct {
@@ -40,6 +47,7 @@ type row struct {
 func (m *model) answer(op api.Op) api.Answer {
 	var a api.Answer
 	var to lead
+	var saved *kept
 	switch op.Kind {
 	case api.Put, api.Get, api.GetV, api.Drop, api.DropV:
 		a = m.ofKey(op)
@@ -51,6 +59,10 @@ func (m *model) answer(op api.Op) api.Answer {
 		a = m.tick(op)
 	case api.Stats:
 		a = m.stats()
+	case api.Save:
+		a, saved = api.Answer{Body: someBytes}, m.copy()
+	case api.Load:
+		a = m.load(op)
 	default:
 		a = api.Answer{Code: api.ErrKind}
 	}
@@ -58,6 +70,7 @@ func (m *model) answer(op api.Op) api.Answer {
 		a.Token = someToken
 	}
 	m.leads = append(m.leads, to)
+	m.saved = append(m.saved, saved)
 	return a
 }
 
@@ -166,6 +179,23 @@ func (m *model) stats() api.Answer {
 		}
 	}
 	return a
+}
+
+func (k kept) copy() *kept {
+	k.rows = slices.Clone(k.rows)
+	return &k
+}
+
+// load asks the Body nothing: it is nothing that was saved where the model is asked.
+func (m *model) load(op api.Op) api.Answer {
+	if op.From < 0 || op.From >= len(m.saved) || m.saved[op.From] == nil {
+		return api.Answer{Code: api.ErrBytes}
+	}
+	m.kept = *m.saved[op.From].copy()
+	for _, b := range m.begun {
+		b.end = math.MinInt
+	}
+	return api.Answer{}
 }
 
 // items makes an item of each row that is asked for, drops those that are there already, and sorts what is left.
@@ -324,6 +354,7 @@ func sameTokens(t *testing.T, got []api.Answer, leads []lead) {
 }
 
 // byBody makes each NEXT name its token by its Body; those that name none get one that is told later, if there is one.
+// Likewise each LOAD names its bytes, if it has some.
 func byBody(steps []step, got []api.Answer) []step {
 	steps = slices.Clone(steps)
 	told := func(i int) string {
@@ -335,6 +366,8 @@ func byBody(steps []step, got []api.Answer) []step {
 	for i := range steps {
 		op := &steps[i].op
 		switch {
+		case op.Kind == api.Load && 0 <= op.From && op.From < i && steps[op.From].op.Kind == api.Save:
+			op.From, op.Body = i+i%2, got[op.From].Body
 		case op.Kind != api.Next:
 		case op.From < i && told(op.From) != "":
 			op.From, op.Body = i+i%2, told(op.From)
@@ -367,5 +400,59 @@ func TestP5AgainstModel(t *testing.T) {
 		got := check(t, steps...)
 		sameTokens(t, got, m.leads)
 		sameAnswers(t, "tokens by Body", check(t, byBody(steps, got)...), got)
+	}
+}
+
+// saving makes steps of which some save, and some load what was saved lately.
+func saving(r *rand.Rand, m *model) api.Op {
+	op := api.Op{Kind: api.Load, From: len(m.saved) - r.IntN(15), Body: "no bytes"}
+	switch r.IntN(12) {
+	case 0:
+		op.Kind = api.Save
+	case 1:
+		// Down from there to a SAVE.
+		for r.IntN(20) > 0 && op.From > 0 && (op.From >= len(m.saved) || m.saved[op.From] == nil) {
+			op.From--
+		}
+	case 2, 3:
+		return lively(r, []int{api.Get, api.GetV, api.DropV}, m)
+	default:
+		return paging(r, m)
+	}
+	return op
+}
+
+// sameBytes: the same for the same versions, number and time, and never the same for others.
+func sameBytes(t *testing.T, got []api.Answer, saved []*kept) {
+	t.Helper()
+	bytes, shelves := map[string]string{}, map[string]string{}
+	for i, a := range got {
+		if saved[i] == nil {
+			continue
+		}
+		shelf := fmt.Sprintf("%#v", *saved[i])
+		if text, ok := bytes[shelf]; ok && text != a.Body {
+			t.Fatalf("step %d: %q, and %q ahead of it, for %s", i, a.Body, text, shelf)
+		}
+		if other, ok := shelves[a.Body]; ok && other != shelf {
+			t.Fatalf("step %d: %q for %s and for %s", i, a.Body, shelf, other)
+		}
+		bytes[shelf], shelves[a.Body] = a.Body, shelf
+	}
+}
+
+func TestP6AgainstModel(t *testing.T) {
+	for seed := range uint64(1000) {
+		r := rand.New(rand.NewPCG(seed, 23))
+		var m model
+		var steps []step
+		for range 200 {
+			op := saving(r, &m)
+			steps = append(steps, step{op, m.answer(op)})
+		}
+		got := check(t, steps...)
+		sameTokens(t, got, m.leads)
+		sameBytes(t, got, m.saved)
+		sameAnswers(t, "tokens and bytes by Body", check(t, byBody(steps, got)...), got)
 	}
 }

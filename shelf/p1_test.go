@@ -58,6 +58,17 @@ func TestP1LongScriptInOrder(t *testing.T) {
 	check(t, steps...)
 }
 
+func TestP1ManySavesAndLoads(t *testing.T) {
+	var steps []step
+	for n := 1; n <= api.MaxVersions; n++ {
+		steps = append(steps, put(longestKey, longestBody, n))
+	}
+	for range 500 {
+		steps = append(steps, save(), dropv(longestKey, 1), load(api.MaxVersions), put("a", "", 0).fails(api.ErrFull), stats(api.MaxVersions))
+	}
+	check(t, steps...)
+}
+
 func TestP1NoGoroutineIsLeft(t *testing.T) {
 	before := runtime.NumGoroutine()
 	var script []api.Op
@@ -69,6 +80,8 @@ func TestP1NoGoroutineIsLeft(t *testing.T) {
 		script = append(script, api.Op{Kind: api.Vers, N: 1}, api.Op{Kind: api.Vers, N: 21}, api.Op{Kind: api.Next, From: api.MaxVersions}, api.Op{Kind: api.Next, From: -1})
 	}
 	script = append(script, api.Op{Kind: api.Tick, N: api.Lease}, api.Op{Kind: api.Next, From: api.MaxVersions})
+	// And listings that a LOAD ends.
+	script = append(script, api.Op{Kind: api.Vers, N: 1}, api.Op{Kind: api.Save}, api.Op{Kind: api.Load, From: len(script) + 1}, api.Op{Kind: api.Vers, N: 1})
 	answers(t, script)
 	// One that has closed its channel may still be on its way out.
 	for range 1000 {

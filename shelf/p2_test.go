@@ -150,3 +150,25 @@ func TestP2BodiesAreNotKept(t *testing.T) {
 		t.Error("the answer shares memory with the script")
 	}
 }
+
+// within tells whether a text lies in the memory of another one.
+func within(part, whole string) bool {
+	start := uintptr(unsafe.Pointer(unsafe.StringData(part)))
+	from := uintptr(unsafe.Pointer(unsafe.StringData(whole)))
+	return part != "" && from <= start && start < from+uintptr(len(whole))
+}
+
+func TestP2LoadedBytesAreNotKept(t *testing.T) {
+	name, body := strings.Repeat("name", 8), strings.Repeat("body", 10)
+	first := answers(t, []api.Op{{Kind: api.Put, Key: name, Body: body}, {Kind: api.Save}})
+	saved := first[1].Body
+	got := answers(t, []api.Op{{Kind: api.Load, From: -1, Body: saved}, {Kind: api.Get, Key: name}, {Kind: api.GetV, Key: name, N: 1}, {Kind: api.List, N: 1}, {Kind: api.Save}})
+	if got[1].Body != body || got[2].Body != body || got[3].Items[0].Text != name || got[4].Body != saved {
+		t.Fatalf("other answers: %+v", got)
+	}
+	for i, text := range []string{got[1].Body, got[2].Body, got[3].Items[0].Text, got[4].Body} {
+		if within(text, saved) {
+			t.Errorf("the answer %d behind the LOAD shares memory with the script", i+1)
+		}
+	}
+}

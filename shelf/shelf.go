@@ -9,7 +9,7 @@ import (
 
 // Run answers a script, step by step.
 func Run(script []api.Op) []api.Answer {
-	at := desk{answers: make([]api.Answer, 0, len(script))}
+	at := desk{script: script, answers: make([]api.Answer, 0, len(script))}
 	for _, op := range script {
 		at.answers = append(at.answers, at.answer(op))
 	}
@@ -20,6 +20,7 @@ func Run(script []api.Op) []api.Answer {
 type desk struct {
 	kept     store.Store
 	listings listing.Listings
+	script   []api.Op
 	answers  []api.Answer // to the steps ahead
 }
 
@@ -49,6 +50,10 @@ func (d *desk) answer(op api.Op) api.Answer {
 		return api.Answer{Code: d.tick(op.N)}
 	case api.Stats:
 		return api.Answer{Version: d.kept.Count(), Items: d.listings.Leases()}
+	case api.Save:
+		return api.Answer{Body: d.kept.Save()}
+	case api.Load:
+		return api.Answer{Code: d.load(d.saved(op))}
 	}
 	return api.Answer{Code: api.ErrKind}
 }
@@ -57,10 +62,21 @@ func query(op api.Op) listing.Query {
 	return listing.Query{Versions: op.Kind == api.Vers, Prefix: op.Key, Delim: op.Delim, After: op.After}
 }
 
+// isAhead: whether that is the number of a step that is answered already.
+func (d *desk) isAhead(step int) bool { return 0 <= step && step < len(d.answers) }
+
 // token tells the one that a NEXT means.
 func (d *desk) token(op api.Op) string {
-	if 0 <= op.From && op.From < len(d.answers) && d.answers[op.From].Token != "" {
+	if d.isAhead(op.From) && d.answers[op.From].Token != "" {
 		return d.answers[op.From].Token
+	}
+	return op.Body
+}
+
+// saved tells the bytes that a LOAD means.
+func (d *desk) saved(op api.Op) string {
+	if d.isAhead(op.From) && d.script[op.From].Kind == api.Save {
+		return d.answers[op.From].Body
 	}
 	return op.Body
 }
@@ -69,6 +85,17 @@ func (d *desk) tick(units int) api.Errno {
 	if units < 0 || units > api.MaxTick {
 		return api.ErrTime
 	}
+	d.kept.Pass(units)
 	d.listings.Pass(units)
+	return api.OK
+}
+
+func (d *desk) load(saved string) api.Errno {
+	kept, code := store.Load(saved)
+	if code != api.OK {
+		return code
+	}
+	d.kept = kept
+	d.listings.EndAll()
 	return api.OK
 }

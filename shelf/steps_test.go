@@ -79,8 +79,26 @@ func stats(count int, left ...int) step {
 	return s
 }
 
-// someToken stands for any token: which one it is, nothing says.
-const someToken = "some token"
+// save: a SAVE, of whatever bytes.
+func save() step {
+	return step{api.Op{Kind: api.Save}, api.Answer{Body: someBytes}}
+}
+
+// load: a LOAD by a step ahead.
+func load(from int) step {
+	return step{op: api.Op{Kind: api.Load, From: from}}
+}
+
+// loadBy: a LOAD by its Body.
+func loadBy(saved string) step {
+	return step{op: api.Op{Kind: api.Load, From: -1, Body: saved}}
+}
+
+// someToken stands for any token, someBytes for what any SAVE answers: which ones they are, nothing says.
+const (
+	someToken = "some token"
+	someBytes = "some bytes"
+)
 
 func key(text string, version int) api.Item {
 	return api.Item{Kind: api.Key, Text: text, Version: version}
@@ -141,6 +159,9 @@ func check(t *testing.T, steps ...step) []api.Answer {
 		if want.Token == someToken && got.Token != "" {
 			want.Token = got.Token
 		}
+		if want.Body == someBytes && got.Body != "" {
+			want.Body = got.Body
+		}
 		if !same(got, want) {
 			t.Fatalf("step %d (%s): %s, want %s", i, tellStep(steps[i].op), tell(got), tell(steps[i].want))
 		}
@@ -169,7 +190,7 @@ func oddTexts() []string {
 }
 
 // mixed makes a script of all kinds of steps, known and unknown, most of them of few keys and of numbers that were given,
-// with listings of pages that may be and that may not, and further pages of those begun lately.
+// with listings of pages that may be and that may not, further pages of those begun lately, and LOADs of what was saved lately.
 func mixed(seed uint64, length int) []api.Op {
 	r := rand.New(rand.NewPCG(seed, 0))
 	texts := []string{"a", "a", "a/", "a/b", "a/b/c", "/", "b", "b", "", "\xff", strings.Repeat("k", 40), strings.Repeat("k", 41), strings.Repeat("b", 101)}
@@ -177,13 +198,18 @@ func mixed(seed uint64, length int) []api.Op {
 	var script []api.Op
 	for range length {
 		op := api.Op{Kind: r.IntN(15) - 1, Key: pick(), Body: pick(), Delim: pick(), After: pick(), N: r.IntN(length), From: r.IntN(length+2) - 1}
-		switch r.IntN(6) {
+		switch r.IntN(7) {
 		case 0, 1:
 			op.Kind = 1 + r.IntN(5)
 		case 2:
 			op.Kind, op.N = api.List+r.IntN(2), r.IntN(22)
 		case 3, 4:
 			op.Kind, op.N, op.From = api.Next+r.IntN(3), r.IntN(5), len(script)-r.IntN(12)
+		case 5:
+			op.Kind, op.From = api.Save+r.IntN(2), len(script)-r.IntN(6)
+			for r.IntN(9) > 0 && op.From > 0 && (op.From >= len(script) || script[op.From].Kind != api.Save) {
+				op.From--
+			}
 		}
 		script = append(script, op)
 	}

@@ -1,7 +1,8 @@
-// Package store keeps the versions of keys, and gives them their numbers.
+// Package store keeps the versions of keys, gives them their numbers, and saves all that it keeps.
 package store
 
 import (
+	"math"
 	"strings"
 
 	"shelf/api"
@@ -13,9 +14,10 @@ type State = tree.Tree[History]
 
 // Store is what is kept now. The zero value is empty.
 type Store struct {
-	histories State // of the keys that have a version, never an empty one
-	count     int   // how many versions there are, markers too
-	last      int   // the number given last; it never falls, so that none is given again
+	histories State  // of the keys that have a version, never an empty one
+	count     int    // how many versions there are, markers too
+	last      int    // the number given last; it never falls, so that none is given again
+	time      uint64 // units that went by
 }
 
 // Put makes a new version of the key, and tells its number.
@@ -82,6 +84,9 @@ func (s *Store) DropVersion(key string, number int) api.Errno {
 	return api.OK
 }
 
+// Pass lets so many units of time, not below 0, go by.
+func (s *Store) Pass(units int) { s.time += uint64(units) }
+
 // State tells what is kept now.
 func (s *Store) State() State { return s.histories }
 
@@ -90,7 +95,8 @@ func (s *Store) Count() int { return s.count }
 
 func isKey(key string) bool { return 1 <= len(key) && len(key) <= api.MaxKey }
 
-func (s *Store) isFull() bool { return s.count >= api.MaxVersions }
+// isFull: no script gives all numbers, but bytes that are loaded may tell that they were given.
+func (s *Store) isFull() bool { return s.count >= api.MaxVersions || s.last == math.MaxInt }
 
 func (s *Store) add(key string, v Version) int {
 	s.last++
